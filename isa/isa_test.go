@@ -166,6 +166,15 @@ func eachWord(f func(w uint32)) {
 	}
 }
 
+// someWords calls f with one word of 61 of those of eachWord.
+func someWords(f func(w uint32)) {
+	eachWord(func(w uint32) {
+		if w%61 == 0 {
+			f(w)
+		}
+	})
+}
+
 // wrong are instructions that may not be: those that may, with one field beyond its bounds, or one that they do not have; Ops that there are not.
 func wrong() []api.Instr {
 	var l []api.Instr
@@ -269,9 +278,20 @@ func TestWordsOfNoneAreBad(t *testing.T) {
 
 func TestDecodeIsAsTheBitsSay(t *testing.T) {
 	l := readings()
-	eachWord(func(w uint32) {
+	someWords(func(w uint32) {
 		if i, want := Decode(w), decode(l, w); i != want {
 			t.Fatalf("Decode(%x) is %v, want %v", w, i, want)
+		}
+	})
+}
+
+// One decoder reads all the words: of Decode's own there is one a call, which takes its time.
+func TestDecoderIsAsTheBitsSay(t *testing.T) {
+	l := readings()
+	var d decoder
+	eachWord(func(w uint32) {
+		if i, want := d.decode(w), decode(l, w); i != want {
+			t.Fatalf("decode(%x) is %v, want %v", w, i, want)
 		}
 	})
 }
@@ -389,9 +409,19 @@ func TestDecodeByManyAtOnce(t *testing.T) {
 }
 
 func TestRowsAreMadeOnceAndApart(t *testing.T) {
-	l := kept.all()
-	if again := kept.all(); &again[0] != &l[0] {
-		t.Error("the rows are made again")
+	var d decoder
+	if len(d.made) > 0 {
+		t.Error("there are rows ahead of the first call that wants them")
+	}
+	d.decode(0)
+	l := d.made
+	d.decode(0xd503201f)
+	if again := d.rows(); len(l) == 0 || len(again) != len(l) || &again[0] != &l[0] {
+		t.Error("the rows are not made, or made again")
+	}
+	var other decoder
+	if &other.rows()[0] == &l[0] {
+		t.Error("two objects share their rows")
 	}
 	for k, a := range l {
 		for _, b := range l[:k] {
@@ -463,8 +493,9 @@ func TestDecodeOfEncodeIsTheInstruction(t *testing.T) {
 }
 
 func TestEncodeOfDecodeIsTheWord(t *testing.T) {
+	var d decoder
 	eachWord(func(w uint32) {
-		i := Decode(w)
+		i := d.decode(w)
 		switch v, e := Encode(i); {
 		case i.Op == api.InBad && (i != api.Instr{Op: api.InBad} || v != 0 || e != api.ErrInstr):
 			t.Fatalf("Decode(%x) is %v, Encode of which is %x, %v", w, i, v, e)
@@ -475,8 +506,9 @@ func TestEncodeOfDecodeIsTheWord(t *testing.T) {
 }
 
 func TestWhatDecodeTellsMayBe(t *testing.T) {
+	var d decoder
 	eachWord(func(w uint32) {
-		if i := Decode(w); alu.Check(i) != api.OK {
+		if i := d.decode(w); alu.Check(i) != api.OK {
 			t.Fatalf("Decode(%x) is %v", w, i)
 		}
 	})
